@@ -1,0 +1,1 @@
+"""Quickbythen: drops that each go what will be quickest by then."""

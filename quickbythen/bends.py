@@ -1,0 +1,163 @@
+"""What is asked of curves that are told already: corners and slopes in lowest terms."""
+
+from quickbythen.exact import ONE, ZERO, is_less, lesser, minus, over, plus, times
+
+
+def slope_between(one, other):
+    """What a curve grows by a beat from one corner to a later one."""
+    return over(minus(other[1], one[1]), minus(other[0], one[0]))
+
+
+def tidied(corners, slope):
+    """The told curve with these corners, less those at which nothing bends."""
+    kept = [corners[0]]
+    for index in range(1, len(corners)):
+        grows = slope
+        if index + 1 < len(corners):
+            grows = slope_between(corners[index], corners[index + 1])
+        if slope_between(kept[-1], corners[index]) != grows:
+            kept.append(corners[index])
+    return (kept, slope)
+
+
+def straight(worth, slope):
+    """The curve that begins with a worth and never bends."""
+    return ([(ZERO, worth)], slope)
+
+
+def piece_slope(curve, index):
+    """What a curve grows by a beat behind the corner with this index."""
+    corners, slope = curve
+    if index + 1 < len(corners):
+        return slope_between(corners[index], corners[index + 1])
+    return slope
+
+
+def pieces_of(curve):
+    """The list of triples of each corner's moment and worth, and the slope behind it."""
+    corners = curve[0]
+    return [(moment, worth, piece_slope(curve, index)) for index, (moment, worth) in enumerate(corners)]
+
+
+def last_corner(curve, moment):
+    """The index of the last corner that is not behind a moment."""
+    corners = curve[0]
+    low = 0
+    high = len(corners)
+    while high - low > 1:
+        middle = (low + high) // 2
+        if is_less(moment, corners[middle][0]):
+            high = middle
+        else:
+            low = middle
+    return low
+
+
+def worth_of(curve, moment):
+    """The worth of a curve at a moment."""
+    index = last_corner(curve, moment)
+    begin, worth = curve[0][index]
+    if begin == moment:
+        return worth
+    return plus(worth, times(piece_slope(curve, index), minus(moment, begin)))
+
+
+def slope_of(curve, moment):
+    """What a curve grows by a beat from a moment on."""
+    return piece_slope(curve, last_corner(curve, moment))
+
+
+def moments_of(curve):
+    """The moments of the corners."""
+    return [corner[0] for corner in curve[0]]
+
+
+def merged(one, other):
+    """Two lists of rising moments as one, each moment once."""
+    found = []
+    left = 0
+    right = 0
+    while left < len(one) and right < len(other):
+        found.append(lesser(one[left], other[right]))
+        if one[left] == found[-1]:
+            left += 1
+        if other[right] == found[-1]:
+            right += 1
+    return found + one[left:] + other[right:]
+
+
+def together_with(one, other, factor):
+    """The curve of one and a factor times other."""
+    corners = []
+    for moment in merged(moments_of(one), moments_of(other)):
+        part = times(factor, worth_of(other, moment))
+        corners.append((moment, plus(worth_of(one, moment), part)))
+    return tidied(corners, plus(one[1], times(factor, other[1])))
+
+
+def gap_between(one, other):
+    """The curve of one less other."""
+    return together_with(one, other, (-1, 1))
+
+
+def scaled_by(curve, factor):
+    """The curve of a factor times the worths."""
+    corners = [(moment, times(factor, worth)) for moment, worth in curve[0]]
+    return tidied(corners, times(factor, curve[1]))
+
+
+def leant(curve, slope):
+    """The curve that grows everywhere by slope a beat more."""
+    return together_with(curve, straight(ZERO, slope), ONE)
+
+
+def crossings(curve):
+    """The moments, rising, at which a curve goes through 0 between its corners."""
+    found = []
+    pieces = pieces_of(curve)
+    for index, (begin, worth, slope) in enumerate(pieces):
+        if worth[0] * slope[0] >= 0:
+            continue
+        moment = minus(begin, over(worth, slope))
+        if index + 1 == len(pieces) or is_less(moment, pieces[index + 1][0]):
+            found.append(moment)
+    return found
+
+
+def first_positive(curve):
+    """The first moment at which, or right behind which, a curve is above 0, None if it is nowhere."""
+    pieces = pieces_of(curve)
+    for index, (begin, worth, slope) in enumerate(pieces):
+        if worth[0] > 0:
+            return begin
+        if slope[0] > 0:
+            moment = minus(begin, over(worth, slope))
+            if index + 1 == len(pieces) or is_less(moment, pieces[index + 1][0]):
+                return moment
+    return None
+
+
+def heap_curve(steps):
+    """The curve of the heap that came by each moment, from pairs of a moment and an unlike rate."""
+    corners = [(ZERO, ZERO)]
+    for index in range(1, len(steps)):
+        stretch = minus(steps[index][0], steps[index - 1][0])
+        corners.append((steps[index][0], plus(corners[-1][1], times(steps[index - 1][1], stretch))))
+    return (corners, steps[-1][1])
+
+
+def steps_of(curve):
+    """The pairs of a moment and what the curve grows by a beat from it on."""
+    return [(moment, slope) for moment, _, slope in pieces_of(curve)]
+
+
+def put_off(curve, length):
+    """A curve that begins with 0, so many beats later."""
+    corners = [(ZERO, ZERO)] + [(plus(moment, length), worth) for moment, worth in curve[0]]
+    return tidied(corners, curve[1])
+
+
+def cut_at(curve, until):
+    """The curve that stays from a moment on as it is then."""
+    corners = [corner for corner in curve[0] if is_less(corner[0], until)]
+    return tidied(corners + [(until, worth_of(curve, until))], ZERO)

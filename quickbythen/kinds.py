@@ -1,0 +1,41 @@
+"""Of which kind any object is."""
+
+
+def is_integer(thing):
+    """Whether a thing is an int that is not a bool."""
+    return isinstance(thing, int) and not isinstance(thing, bool)
+
+
+def is_number(thing):
+    """Whether a thing is an integer from 0 on."""
+    return is_integer(thing) and thing >= 0
+
+
+def is_count(thing):
+    """Whether a thing is an integer from 1 on."""
+    return is_integer(thing) and thing >= 1
+
+
+def is_index(thing, many):
+    """Whether a thing is an index of a list of so many things."""
+    return is_number(thing) and thing < many
+
+
+def is_list(thing):
+    """Whether a thing is a list, or a tuple, which means the same."""
+    return isinstance(thing, (list, tuple))
+
+
+def is_pair(thing):
+    """Whether a thing is a list of two things."""
+    return is_list(thing) and len(thing) == 2
+
+
+def is_fraction(thing):
+    """Whether a thing is a fraction, in lowest terms or not."""
+    return is_pair(thing) and is_integer(thing[0]) and is_count(thing[1])
+
+
+def is_moment(thing):
+    """Whether a thing is a fraction from 0 on: a moment, a rate, a heap."""
+    return is_fraction(thing) and thing[0] >= 0

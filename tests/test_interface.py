@@ -1,0 +1,45 @@
+"""The interface: each name in its file, with the parameters that the document shows."""
+
+import importlib
+import inspect
+import re
+import unittest
+
+LISTED = """
+nets.py: is_way(net, thing); ways(net); shortest(net).
+comers.py: rate_at(comers, moment); come_by(comers, moment).
+curves.py: is_curve(thing); plain(curve); worth_at(curve, moment); slope_at(curve, moment); first_at(curve, worth);
+first_above(one, other); first_apart(one, other); area(curve, begin, end).
+madecurves.py: added(curves); least_of(curves); greatest_of(curves); scaled(curve, factor); difference(one, other);
+behind(one, other); turned(curve); curve_of(comers); comers_of(curve).
+heldcurves.py: risen(curve); held_back(curve, most); pushed_ahead(curve, most); kept_between(low, high, most);
+too_steep(low, high, most).
+"""
+
+
+class InterfaceTest(unittest.TestCase):
+    def test_functions(self):
+        found = 0
+        for name, text in re.findall(r"(\w+)\.py: ([^.]*)\.", LISTED):
+            module = importlib.import_module("quickbythen." + name)
+            for function, parameters in re.findall(r"(\w+)\(([^)]*)\)", text):
+                with self.subTest(function):
+                    made = getattr(module, function)
+                    self.assertTrue(inspect.isfunction(made))
+                    self.assertEqual(made.__module__, "quickbythen." + name)
+                    self.assertEqual(str(inspect.signature(made)), "(" + parameters + ")")
+                    found += 1
+        self.assertEqual(found, 27)
+
+    def test_net(self):
+        from quickbythen.nets import Net
+        self.assertEqual(Net.__module__, "quickbythen.nets")
+        self.assertEqual(str(inspect.signature(Net)), "(places, roads, start, end)")
+        for method in ("places", "roads", "start", "end", "__eq__"):
+            self.assertIn(method, vars(Net))
+            if method != "__eq__":
+                self.assertEqual(str(inspect.signature(getattr(Net, method))), "(self)")
+
+
+if __name__ == "__main__":
+    unittest.main()
