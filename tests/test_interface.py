@@ -14,6 +14,19 @@ madecurves.py: added(curves); least_of(curves); greatest_of(curves); scaled(curv
 behind(one, other); turned(curve); curve_of(comers); comers_of(curve).
 heldcurves.py: risen(curve); held_back(curve, most); pushed_ahead(curve, most); kept_between(low, high, most);
 too_steep(low, high, most).
+oneroad.py: went_in(road, comers); line_on(road, comers); came_out(road, comers); when_out(road, comers);
+busy(road, comers).
+roomenough.py: crowd(comers, room, most); room_for_line(comers, most); room_for_wait(comers, most);
+latest_comers(road, wanted); too_much(road, wanted).
+rows.py: row_out(row, comers); row_lines(row, comers); row_form(row); seen_alike(one, other);
+parting_rate(one, other); together(streams); letters_out(road, streams).
+lookedback.py: comers_behind(road, out); could_have_come(road, out, moment); comers_through(road, curve);
+fitting_comers(road, stories); clash(road, stories).
+plans.py: is_plan(net, thing); played(net, plan, until); lines(net, plan, until); line_then(net, plan, road, moment);
+is_played(net, plan, until, thing); tally(net, plan, moment).
+stories.py: story(net, plan, way, moment, until).
+orders.py: road_order(net, plan); road_ring(net, plan); played_out(net, plan); still_from(net, plan);
+at_last(net, plan); left_lines(net, plan).
 """
 
 
@@ -29,7 +42,7 @@ class InterfaceTest(unittest.TestCase):
                     self.assertEqual(made.__module__, "quickbythen." + name)
                     self.assertEqual(str(inspect.signature(made)), "(" + parameters + ")")
                     found += 1
-        self.assertEqual(found, 27)
+        self.assertEqual(found, 62)
 
     def test_net(self):
         from quickbythen.nets import Net
