@@ -111,6 +111,31 @@ def leant(curve, slope):
     return together_with(curve, straight(ZERO, slope), ONE)
 
 
+def out_by_line(line, length, room):
+    """The curve of when who comes at a moment is out, from the line that it finds."""
+    wait = scaled_by(line, (1, room))
+    return together_with(wait, straight((length, 1), ONE), ONE)
+
+
+def after(outer, inner):
+    """The curve of the worth of outer at the moment that is inner's worth; inner never falls."""
+    corners = []
+    passed = 0
+    bends = outer[0]
+    pieces = pieces_of(inner)
+    for index, (begin, worth, slope) in enumerate(pieces):
+        corners.append((begin, worth_of(outer, worth)))
+        while passed < len(bends) and not is_less(worth, bends[passed][0]):
+            passed += 1
+        while slope != ZERO and passed < len(bends):
+            if index + 1 < len(pieces) and not is_less(bends[passed][0], pieces[index + 1][1]):
+                break
+            corners.append((plus(begin, over(minus(bends[passed][0], worth), slope)), bends[passed][1]))
+            passed += 1
+    # If inner grows at last, no corner of outer is ahead any more.
+    return tidied(corners, times(inner[1], outer[1]))
+
+
 def crossings(curve):
     """The moments, rising, at which a curve goes through 0 between its corners."""
     found = []

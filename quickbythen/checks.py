@@ -1,8 +1,8 @@
 """What is passed, looked at once and told in lowest terms."""
 
-from quickbythen.errors import BadComers, BadFraction, BadHeap, BadMoment, BadRate, BadRoad
+from quickbythen.errors import BadComers, BadFraction, BadHeap, BadMany, BadMoment, BadRate, BadRoad
 from quickbythen.exact import is_less, lowest
-from quickbythen.kinds import is_count, is_fraction, is_list, is_moment, is_pair
+from quickbythen.kinds import is_count, is_fraction, is_index, is_integer, is_list, is_moment, is_pair
 from quickbythen.refusals import BadRow
 
 
@@ -73,8 +73,37 @@ def told_lane(road):
     return (road[0], road[1])
 
 
+def told_many(many):
+    """A number of phases; BadMany for what is none."""
+    if not is_count(many):
+        raise BadMany(many)
+    return many
+
+
+def is_row(thing):
+    """Whether a thing is a row of roads."""
+    return is_list(thing) and len(thing) > 0 and all([is_lane(road) for road in thing])
+
+
 def told_row(row):
     """The lengths and rooms of a row of roads; BadRow for what is none."""
-    if not is_list(row) or len(row) == 0 or not all([is_lane(road) for road in row]):
+    if not is_row(row):
         raise BadRow(row)
     return [(road[0], road[1]) for road in row]
+
+
+def told_worths(thing):
+    """The dict, ascending, from integers to fractions in lowest terms that a thing is, None if it is none."""
+    if not isinstance(thing, dict):
+        return None
+    if not all([is_integer(key) and is_fraction(thing[key]) for key in thing]):
+        return None
+    return {key: lowest(thing[key][0], thing[key][1]) for key in sorted(thing)}
+
+
+def told_goes(thing, many):
+    """The goes, all above 0, of some of so many roads that a thing is, None if it is none."""
+    found = told_worths(thing)
+    if found is None or not all([is_index(number, many) and found[number][0] > 0 for number in found]):
+        return None
+    return found

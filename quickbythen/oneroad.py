@@ -1,8 +1,8 @@
 """One road, played out: who goes in, who waits, who is out and when."""
 
-from quickbythen.bends import (gap_between, heap_curve, leant, pieces_of, put_off, scaled_by, straight, together_with)
+from quickbythen.bends import gap_between, heap_curve, out_by_line, pieces_of, put_off
 from quickbythen.checks import told_comers, told_lane
-from quickbythen.exact import ONE, ZERO
+from quickbythen.exact import ZERO
 from quickbythen.heldcurves import held
 
 
@@ -33,8 +33,7 @@ def came_out(road, comers):
 def when_out(road, comers):
     """The curve of when who comes at a moment is out at the end."""
     length, room, came, inside = heap_and_room(road, comers)
-    wait = scaled_by(gap_between(came, inside), (1, room))
-    return leant(together_with(wait, straight((length, 1), ZERO), ONE), ONE)
+    return out_by_line(gap_between(came, inside), length, room)
 
 
 def busy(road, comers):

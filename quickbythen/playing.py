@@ -67,6 +67,18 @@ class RoadPlay:
             stop = sooner(stop, plus(self.now, over(self.line, minus(self.room, rate))))
         return stop
 
+    def next_change(self):
+        """The first moment, from now on, at which the piece that was played last ends, None if it never does."""
+        if not self.marks or (self.line == ZERO and self.growth[0] < 0):
+            return self.now
+        change = None
+        if self.growth[0] < 0:
+            change = minus(self.now, over(self.line, self.growth))
+        for flow, at in zip(self.coming, self.reached):
+            if at + 1 < len(flow):
+                change = sooner(change, flow[at + 1][0])
+        return change
+
     def send_on(self, rates, rate):
         """Write how those who come from now on go out."""
         is_held = self.line != ZERO or is_less(self.room, rate)
@@ -116,13 +128,25 @@ class Play:
     def play_by_beats(self, until):
         """Play all roads side by side."""
         used = [number for way, _ in self.plan for number in way]
-        # Nobody is through a road in less beats: so what comes meanwhile is known already.
+        # Nobody is through a road in less beats: so what changes is seen elsewhere only so much later.
         step = (min([self.net.roads()[number][2] for number in used]), 1)
         reached = ZERO
         while is_less(reached, until):
-            reached = lesser(plus(reached, step), until)
+            change = self.next_change()
+            reached = until
+            if change is not None:
+                reached = lesser(plus(change, step), until)
             for road in self.road_plays:
                 road.play_to(reached)
+
+    def next_change(self):
+        """The first moment at which something changes at some road, None if nothing is known to change."""
+        change = None
+        for road in self.road_plays:
+            moment = road.next_change()
+            if moment is not None:
+                change = sooner(change, moment)
+        return change
 
     def heaps(self, index):
         """The curves of how many of a group have come to each place of their way."""

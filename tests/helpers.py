@@ -244,3 +244,70 @@ def all_ways(net):
 
     go([], [net.start()])
     return found
+
+
+def rows_to(net, place):
+    """All rows of roads from the start to a place that come to no place twice."""
+    found = []
+
+    def go(row, been):
+        if been[-1] == place:
+            found.append(row)
+            return
+        for number, (one, other, _, _) in enumerate(net.roads()):
+            if one == been[-1] and other not in been:
+                go(row + [number], been + [other])
+
+    go([], [net.start()])
+    return found
+
+
+def reached(net):
+    """The ascending list of the places that can be come to."""
+    return [place for place in range(net.places()) if rows_to(net, place)]
+
+
+def check_told_dict(case, thing, is_worth=is_lowest):
+    """That a dict from integers to fractions is told as 2.1 and 2.4 tell."""
+    case.assertIs(type(thing), dict)
+    case.assertEqual(list(thing), sorted(thing))
+    for key in thing:
+        case.assertIs(type(key), int)
+        case.assertTrue(is_worth(thing[key]))
+
+
+def check_doors(case, call, good, errors):
+    """That errors come in the order in which they are listed, each ahead of all that are due behind it.
+
+    good are arguments that are let; errors are tuples of an argument's index, the error, the name under
+    which it keeps the very object (or "index", for the index 0), and bad things.
+    """
+    call(*good)
+    for at, (argument, error, name, things) in enumerate(errors):
+        args = list(good)
+        for later, _, _, wrong in errors[at + 1:]:
+            args[later] = wrong[0]
+        for thing in things:
+            args[argument] = thing
+            check_error(case, error, name, 0 if name == "index" else thing, call, *args)
+
+
+def reversed_dict(thing):
+    """The same dict, its keys the other way about."""
+    return {key: thing[key] for key in list(thing)[::-1]}
+
+
+def other_dicts(thing):
+    """Dicts that are nearly the same: a key less, one more, others, other worths, and no dicts."""
+    found = [list(thing.items()), list(thing.values()), None, list(thing)]
+    for key in thing:
+        rest = {one: thing[one] for one in thing if one != key}
+        found = found + [rest, {**rest, key: None}, {**rest, key: (thing[key][0] + 1, thing[key][1])},
+                         {**rest, key: (thing[key][0], thing[key][1] + 1)} if thing[key][0] else {**rest, key: (0, 0)},
+                         {**rest, key: (-7, 3)}, {**rest, key: thing[key][0]}, {**rest, (key,): thing[key]},
+                         {**rest, str(key): thing[key]}, {**rest, None: thing[key]}, {**rest, key + 50: thing[key]},
+                         {**rest, -1 - key: thing[key]}, {**rest, key: (True, thing[key][1])},
+                         {**rest, key: thing[key] + (1,)}]
+        if key in (0, 1):
+            found.append({**rest, bool(key): thing[key]})
+    return found + [{**thing, 50: (1, 1)}, {**thing, "a": (1, 1)}, {**thing, -1: (0, 1)}, {**thing, None: None}]

@@ -27,6 +27,16 @@ is_played(net, plan, until, thing); tally(net, plan, moment).
 stories.py: story(net, plan, way, moment, until).
 orders.py: road_order(net, plan); road_ring(net, plan); played_out(net, plan); still_from(net, plan);
 at_last(net, plan); left_lines(net, plan).
+through.py: labels_through(net, plan, moment, until); is_labels(net, plan, moment, until, thing);
+quick_way(net, plan, moment, until); quicker(net, plan, way, moment, until); label_through(net, plan, place, until).
+gains.py: first_gain(net, plan, until); gain_of(net, plan, index, moment, until).
+tables.py: is_stand(net, thing); table(net, stand, rate); is_table(net, stand, rate, thing).
+phases.py: phases(net, comers, many); rests(net, comers, many); label_at(net, comers, place, moment, many);
+label_curve(net, comers, place, many); line_at(net, comers, road, moment, many);
+waited(net, comers, begin, end, many); lost(net, comers, begin, end, many).
+shown.py: is_phases(net, comers, thing); plan_until(net, comers, many).
+cuts.py: is_cut(net, thing); room_of(net, cut); least_cut(net); is_flow(net, rate, thing); flow_within(net, rate).
+resting.py: resting(net, rate); is_resting(net, rate, thing); levels(net, rate); growing(net, rate).
 """
 
 
@@ -42,7 +52,7 @@ class InterfaceTest(unittest.TestCase):
                     self.assertEqual(made.__module__, "quickbythen." + name)
                     self.assertEqual(str(inspect.signature(made)), "(" + parameters + ")")
                     found += 1
-        self.assertEqual(found, 62)
+        self.assertEqual(found, 90)
 
     def test_net(self):
         from quickbythen.nets import Net

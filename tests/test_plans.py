@@ -189,6 +189,14 @@ class PlayedTest(unittest.TestCase):
         self.check_plan(net, RING, Fraction(16))
         self.check_plan(net, RING, Fraction(31, 2))
 
+    def test_far_moments_in_a_ring(self):
+        # When nobody comes any more nothing changes for ever: that takes no longer to tell than what was ahead.
+        plan = [(way, steps + comers((8, 0))) for way, steps in RING]
+        told, waiting = played(RING_NET, plan, (1000, 1)), lines(RING_NET, plan, (1000, 1))
+        self.assertEqual(played(RING_NET, plan, (10 ** 30, 7)), told)
+        self.assertEqual(lines(RING_NET, plan, (10 ** 30, 7)), waiting)
+        self.check_plan(RING_NET, plan, Fraction(1000))
+
     def test_wide_short_roads_between_places_with_great_numbers_in_a_ring(self):
         chance = Chance(41)
         roads = [(one + 3, other + 3, length, room + 2) for one, other, length, room in RING_NET.roads()]
