@@ -37,6 +37,17 @@ waited(net, comers, begin, end, many); lost(net, comers, begin, end, many).
 shown.py: is_phases(net, comers, thing); plan_until(net, comers, many).
 cuts.py: is_cut(net, thing); room_of(net, cut); least_cut(net); is_flow(net, rate, thing); flow_within(net, rate).
 resting.py: resting(net, rate); is_resting(net, rate, thing); levels(net, rate); growing(net, rate).
+cheapest.py: cheapest(net, rate); is_cheapest(net, rate, thing); least_cost(net, rate); marks_for(net, rate, goes);
+cheaper(net, rate, goes).
+compared.py: known_until(net, comers, many); compared(one, comers, other, others, many);
+first_later(one, comers, other, others, many); saved(one, other, comers, moment, many);
+for_ever(one, comers, other, others, many); same_until(comers, others).
+changes.py: idle(net, comers, many); without_road(net, road); harming(net, comers, many); is_chain(net).
+bundles.py: as_road(row); lanes_of(bundle); room_by(bundle, number); cut_lanes(bundle, most); net_of(bundle).
+bundlethrough.py: time_through(bundle, comers); shares_of(bundle, comers); bundle_out(bundle, comers).
+laterbundles.py: never_later(one, other, most); alike_bundles(one, other, most); later_steady(one, other, most);
+later_until(one, other, comers); as_quick_as_both(one, other); as_slow_as_both(one, other).
+chains.py: chain_through(chain, comers); chain_net(chain).
 """
 
 
@@ -52,7 +63,7 @@ class InterfaceTest(unittest.TestCase):
                     self.assertEqual(made.__module__, "quickbythen." + name)
                     self.assertEqual(str(inspect.signature(made)), "(" + parameters + ")")
                     found += 1
-        self.assertEqual(found, 90)
+        self.assertEqual(found, 121)
 
     def test_net(self):
         from quickbythen.nets import Net
