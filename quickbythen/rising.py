@@ -7,7 +7,7 @@ would without it; the table is told without it, and looked through.
 """
 
 from quickbythen.equations import solved
-from quickbythen.exact import ONE, ZERO, is_less, lowest, minus, negative, over, plus, times
+from quickbythen.exact import ONE, ZERO, is_less, lowest, minus, negative, over, plus, times, total
 
 # A road without goes, one whose end has the slope of its begin, one whose goes ask for its end's slope.
 LOW = 0
@@ -59,22 +59,23 @@ class Rising:
         slopes = {self.start: ONE}
         while len(slopes) < len(self.places):
             for place in self.places:
-                asked = [(ZERO if road[3] else self.ask(slopes, index), index)
-                         for index, road in enumerate(self.roads) if road[1] == place and road[0] in slopes]
-                is_known = len(asked) == len([road for road in self.roads if road[1] == place])
-                if place in slopes or not is_known:
+                leading = [index for index, road in enumerate(self.roads) if road[1] == place]
+                if place in slopes or not all([self.roads[index][0] in slopes for index in leading]):
                     continue
-                least = asked[0]
-                for ask in asked:
-                    if is_less(ask[0], least[0]):
-                        least = ask
-                slopes[place] = least[0]
-                if self.sorts[least[1]] == LOW:
-                    self.sorts[least[1]] = MID
+                least = leading[0]
+                for index in leading:
+                    if is_less(self.ask(slopes, index), self.ask(slopes, least)):
+                        least = index
+                slopes[place] = self.ask(slopes, least)
+                if self.sorts[least] == LOW:
+                    self.sorts[least] = MID
 
     def ask(self, slopes, index):
         """What a road asks for if nothing goes on it."""
-        return plus(slopes[self.roads[index][0]], self.nudges[index])
+        one, _, _, is_waiting = self.roads[index]
+        if is_waiting:
+            return ZERO
+        return plus(slopes[one], self.nudges[index])
 
     def end_little(self):
         """Go on without the little more."""
@@ -86,23 +87,23 @@ class Rising:
         """Turn road by road up to a rate; whether no two turned at once."""
         now = ZERO
         while True:
+            turns = self.turns()
             first = None
-            is_alone = True
-            for line, index, sort in self.bounds():
-                if line[1][0] >= 0:
-                    continue
-                moment = over(line[0], negative(line[1]))
-                if first is None or is_less(moment, first[0]):
-                    first = (moment, index, sort)
-                    is_alone = True
-                elif moment == first[0]:
-                    is_alone = False
+            for turn in turns:
+                if first is None or is_less(turn[0], first[0]):
+                    first = turn
             if first is None or not is_less(first[0], rate):
                 return True
+            is_alone = len([turn for turn in turns if turn[0] == first[0]]) == 1
             if not is_alone or not is_less(now, first[0]):
                 return False
             now = first[0]
             self.sorts[first[1]] = first[2]
+
+    def turns(self):
+        """The rates at which roads would turn, the roads, and the sorts to which they would."""
+        return [(over(line[0], negative(line[1])), index, sort)
+                for line, index, sort in self.bounds() if line[1][0] < 0]
 
     def bounds(self):
         """What stays from 0 on as long as a road is of its sort: a line, the road, and the sort behind that."""
@@ -139,6 +140,16 @@ class Rising:
         self.fill_middle(goes, needs)
         return (slopes, goes)
 
+    def bound_to(self, place):
+        """The places that MID roads bind to this one, and what their slopes are more."""
+        found = []
+        for index, (one, other, _, _) in enumerate(self.roads):
+            if self.sorts[index] == MID and one == place:
+                found.append((other, self.nudges[index]))
+            if self.sorts[index] == MID and other == place:
+                found.append((one, negative(self.nudges[index])))
+        return found
+
     def groups(self):
         """By places, the first place of all that MID roads bind to it, and what its slope is more than that one's."""
         roots = {}
@@ -151,13 +162,9 @@ class Rising:
             trail = [root]
             while trail:
                 place = trail.pop()
-                for index, (one, other, _, _) in enumerate(self.roads):
-                    if self.sorts[index] != MID or place not in (one, other):
-                        continue
-                    far = other if place == one else one
+                for far, step in self.bound_to(place):
                     if far not in roots:
                         roots[far] = root
-                        step = self.nudges[index] if far == other else negative(self.nudges[index])
                         offsets[far] = plus(offsets[place], step)
                         trail.append(far)
         return (roots, offsets)
@@ -165,29 +172,29 @@ class Rising:
     def slope_lines(self, roots, offsets):
         """The dict of the slopes as straight lines: in each group but the start's as much comes as leaves."""
         unknown = [place for place in self.places if roots[place] == place and place != self.start]
+        found = solved([self.equation(root, roots, offsets, unknown) for root in unknown], len(unknown))
+        known = {self.start: (ONE, ZERO)}
+        for root, line in zip(unknown, found):
+            known[root] = line
+        return {place: (plus(known[roots[place]][0], offsets[place]), known[roots[place]][1]) for place in self.places}
+
+    def equation(self, root, roots, offsets, unknown):
+        """What comes to a group less what leaves it: factors of unknown slopes, then what that is, by the rate."""
         many = len(unknown)
-        at = {place: unknown.index(roots[place]) for place in self.places if roots[place] != self.start}
-        rows = [[ZERO for _ in range(many + 2)] for _ in unknown]
-        for place in at:
-            rows[at[place]][many + 1] = plus(rows[at[place]][many + 1], self.sheds[place])
+        shed = total([self.sheds[place] for place in self.places if roots[place] == root])
+        row = [ZERO for _ in unknown] + [ZERO, shed]
         for index, (one, other, room, _) in enumerate(self.roads):
-            if self.sorts[index] != HIGH or roots[one] == roots[other]:
+            if self.sorts[index] != HIGH or (roots[one] == root) == (roots[other] == root):
                 continue
-            for place, factor in ((other, (room, 1)), (one, (-room, 1))):
-                if place in at:
-                    row = rows[at[place]]
-                    known = offsets[other]
-                    if other in at:
-                        row[at[other]] = plus(row[at[other]], factor)
-                    else:
-                        known = plus(known, ONE)
-                    row[many] = minus(row[many], times(known, factor))
-        found = solved(rows, many)
-        slopes = {}
-        for place in self.places:
-            root = found[at[place]] if place in at else [ONE, ZERO]
-            slopes[place] = (plus(root[0], offsets[place]), root[1])
-        return slopes
+            factor = (room, 1) if roots[other] == root else (-room, 1)
+            known = offsets[other]
+            if roots[other] in unknown:
+                at = unknown.index(roots[other])
+                row[at] = plus(row[at], factor)
+            else:
+                known = plus(known, ONE)
+            row[many] = minus(row[many], times(known, factor))
+        return row
 
     def fill_middle(self, goes, needs):
         """Write the goes of MID roads, which bring to each place what it still needs."""
@@ -195,15 +202,15 @@ class Rising:
         while left:
             ends = [place for index in left for place in self.roads[index][:2]]
             # MID roads lead round no ring: so somewhere one of them is the last one.
-            index = [index for index in left if self.last_end(index, ends) is not None][0]
-            one, other = self.roads[index][:2]
-            if self.last_end(index, ends) == other:
-                goes[index] = needs[other]
+            last = [index for index in left if self.last_end(index, ends) is not None][0]
+            one, other = self.roads[last][:2]
+            if self.last_end(last, ends) == other:
+                goes[last] = needs[other]
                 needs[one] = line_plus(needs[one], needs[other], ONE)
             else:
-                goes[index] = line_plus((ZERO, ZERO), needs[one], (-1, 1))
+                goes[last] = line_plus((ZERO, ZERO), needs[one], (-1, 1))
                 needs[other] = line_plus(needs[other], needs[one], ONE)
-            left.remove(index)
+            left.remove(last)
 
     def last_end(self, index, ends):
         """An end of a road, not the start, at which no other road that is left has an end, None if there is none."""

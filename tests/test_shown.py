@@ -16,6 +16,7 @@ from tests.helpers import (N, ODD, Chance, check_doors, check_error, check_told_
                            other_dicts, pair, reached, reversed_dict, slope_behind, swapped, unlowered,
                            with_like_neighbours, worth)
 from tests.test_phases import BAD_COMERS, BAD_MANY, FOUR
+from tests.test_plans import RING_NET
 from tests.test_through import NO_WAY
 
 
@@ -177,6 +178,19 @@ class PlanUntilTest(unittest.TestCase):
         self.assertEqual(plan_until(N, FOUR, 2)[1], (3, 1))
         self.check_played(N, FOUR, 1)
         self.check_played(N, FOUR, 2)
+
+    def test_plans_without_an_order(self):
+        # Waits come and go, so that at some time or other ways lead each way round the roads 3, 5 and 7.
+        lengths = [((1, 2), (10, 8), (1, 4), (1, 7), (12, 7), (1, 5), (3, 4), (1, 2), (6, 6)),
+                   ((11, 8), (1, 6), (1, 1), (2, 4), (8, 7), (2, 4), (1, 4), (3, 7), (12, 8))]
+        steps = [comers((0, 28), (Fraction(22, 3), 7), (Fraction(31, 3), Fraction(146, 3)), (Fraction(52, 3), 0),
+                        (Fraction(59, 3), Fraction(26, 3)), (Fraction(142, 3), Fraction(47, 3))),
+                 comers((0, 0), (10, Fraction(7, 2)), (Fraction(34, 3), 0), (Fraction(107, 6), Fraction(116, 3)),
+                        (Fraction(149, 6), 40), (Fraction(136, 3), 11))]
+        for lanes, rows in zip(lengths, steps):
+            net = Net(5, [road[:2] + lane for road, lane in zip(RING_NET.roads(), lanes)], 0, 4)
+            plan = self.check_played(net, rows, 60)
+            self.assertIsNone(road_order(net, plan))
 
     def test_nobody_comes(self):
         plan, until = plan_until(N, comers((0, 0)), 3)
