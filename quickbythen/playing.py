@@ -69,7 +69,7 @@ class RoadPlay:
 
     def next_change(self):
         """The first moment, from now on, at which the piece that was played last ends, None if it never does."""
-        if not self.marks or (self.line == ZERO and self.growth[0] < 0):
+        if not self.marks:
             return self.now
         change = None
         if self.growth[0] < 0:

@@ -197,6 +197,13 @@ class PlayedTest(unittest.TestCase):
         self.assertEqual(lines(RING_NET, plan, (10 ** 30, 7)), waiting)
         self.check_plan(RING_NET, plan, Fraction(1000))
 
+    def test_steady_comers_in_a_ring(self):
+        # All that changes does so by what goes round the ring.
+        for rates in ((3, 5, 4), (9, 9, 9), (1, 7, 2), (2, 2, 30)):
+            plan = [(way, comers((0, rate))) for (way, _), rate in zip(RING, rates)]
+            self.check_plan(RING_NET, plan, Fraction(16))
+            self.check_plan(RING_NET, plan[::-1], Fraction(33, 2))
+
     def test_wide_short_roads_between_places_with_great_numbers_in_a_ring(self):
         chance = Chance(41)
         roads = [(one + 3, other + 3, length, room + 2) for one, other, length, room in RING_NET.roads()]
