@@ -85,3 +85,14 @@ def cut_to(lanes, most):
         if left is not None:
             left = minus(left, much)
     return found
+
+
+def lanes_with(rooms):
+    """The lanes by which the rooms of all up to a length are those of ascending pairs (length, room)."""
+    found = []
+    reached = 0
+    for length, room in rooms:
+        if room > reached:
+            found.append((length, room - reached))
+            reached = room
+    return found

@@ -2,7 +2,7 @@
 
 from quickbythen.bends import first_positive, gap_between
 from quickbythen.checks import told_comers
-from quickbythen.lanes import cut_to, first_lack, lengths_in, room_within, told_lanes, told_most
+from quickbythen.lanes import cut_to, first_lack, lanes_with, lengths_in, room_within, told_lanes, told_most
 from quickbythen.passing import passed, through_curve
 
 
@@ -32,17 +32,6 @@ def later_until(one, other, comers):
     second = told_lanes(other)
     steps = told_comers(comers)
     return first_positive(gap_between(through_curve(passed(first, steps)), through_curve(passed(second, steps))))
-
-
-def lanes_with(rooms):
-    """The lanes by which the rooms of all up to a length are those of ascending pairs (length, room)."""
-    found = []
-    reached = 0
-    for length, room in rooms:
-        if room > reached:
-            found.append((length, room - reached))
-            reached = room
-    return found
 
 
 def as_quick_as_both(one, other):

@@ -48,6 +48,17 @@ bundlethrough.py: time_through(bundle, comers); shares_of(bundle, comers); bundl
 laterbundles.py: never_later(one, other, most); alike_bundles(one, other, most); later_steady(one, other, most);
 later_until(one, other, comers); as_quick_as_both(one, other); as_slow_as_both(one, other).
 chains.py: chain_through(chain, comers); chain_net(chain).
+bestshares.py: brought(bundle, shares); most_out(bundle, comers); best_shares(bundle, comers).
+rests.py: rest_of(bundle, rate); learned_lanes(box, most); fewest_rates(bundles).
+seen.py: fits_until(comers, curve); seen_bounds(comers, curve); tells_all(bundle, comers); twin_for(bundle, comers).
+settingout.py: settled(room, length, wishes, early, late); gains(room, length, wishes, early, late, thing);
+stretches(room, length, wishes, early, late); troubles(room, length, wishes, early, late).
+tolls.py: toll(room, length, wishes, early, late); tolled(room, length, wishes, early, late);
+paid(room, length, wishes, early, late).
+packets.py: packets_played(net, sending, choice); quick_fault(net, sending, choice); quick_choice(net, sending);
+first_free(net, sending); packet_labels(net, sending, beat); packet_gain(net, sending, choice).
+rounds.py: round_stand(net, sending, period, number); comes_again(net, sending, period, many);
+far_packet(net, sending, period, number, many).
 """
 
 
@@ -63,7 +74,7 @@ class InterfaceTest(unittest.TestCase):
                     self.assertEqual(made.__module__, "quickbythen." + name)
                     self.assertEqual(str(inspect.signature(made)), "(" + parameters + ")")
                     found += 1
-        self.assertEqual(found, 121)
+        self.assertEqual(found, 147)
 
     def test_net(self):
         from quickbythen.nets import Net

@@ -14,6 +14,7 @@ CALLED = {"len", "range", "enumerate", "zip", "min", "max", "sum", "abs", "sorte
 METHODS = {"append", "clear", "copy", "count", "endswith", "extend", "find", "get", "index", "insert", "isalnum",
            "isalpha", "isdigit", "islower", "items", "join", "keys", "pop", "remove", "replace", "reverse", "split",
            "splitlines", "startswith", "strip", "update", "values", "add", "discard", "setdefault"}
+LIBRARY = {"math": ["gcd"], "itertools": ["combinations"]}
 BARRED = {"type", "typing", "enum", "Enum", "Generic", "Protocol", "ABC", "namedtuple", "dataclass", "overload",
           "abstractmethod", "contextmanager", "register", "mro", "elements", "open", "input", "law", "float"}
 STATEMENTS = (ast.Global, ast.AsyncFunctionDef, ast.AsyncFor, ast.AsyncWith, ast.Await, ast.Yield, ast.YieldFrom,
@@ -88,8 +89,8 @@ class LanguageTest(unittest.TestCase):
                 self.assertEqual(node.level, 0)
                 names = [one.name for one in node.names]
                 self.assertTrue(all([one.asname is None for one in node.names]))
-                if node.module == "math":
-                    self.assertEqual(names, ["gcd"])
+                if node.module in LIBRARY:
+                    self.assertEqual(names, LIBRARY[node.module])
                     continue
                 package, name = node.module.split(".")
                 self.assertEqual(package, "quickbythen")
