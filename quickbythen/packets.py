@@ -38,7 +38,7 @@ def quick_choice(net, sending):
 
 
 def first_free(net, sending):
-    """By roads that are gone into, the beat at which one packet more could go in behind all, and how many could then."""
+    """By roads, the beat at which one packet more could go in behind all that go quick, and how many could then."""
     free = sent(net, sending)[0].free
     return {number: free[number] for number in sorted(free)}
 
@@ -53,7 +53,7 @@ def packet_labels(net, sending, beat):
 
 
 def packet_gain(net, sending, choice):
-    """The first packet that would be earlier at the end by another way, that way, and when it would be there; or None."""
+    """The first packet that would be earlier at the end by another way, the way, and when it would be there; or None."""
     beats = told_sending(sending)
     told = told_choice(net, len(beats), choice)
     ends = [row[-1] for row in Beats(net, beats, told).play()]

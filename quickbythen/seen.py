@@ -37,7 +37,7 @@ def last_number(steps, curve):
 
 
 def seen_bounds(comers, curve):
-    """By numbers, the least and the most room_by of bundles that have a curve, and whether there is no more; or None."""
+    """By numbers, the least and the most room of bundles that have a curve, and whether there is no more; or None."""
     steps = told_comers(comers)
     told = told_through(curve)
     first = told[0][0][1][0]
