@@ -53,7 +53,7 @@ def packet_labels(net, sending, beat):
 
 
 def packet_gain(net, sending, choice):
-    """The first packet that would be earlier at the end by another way, the way, and when it is there by it; or None."""
+    """The first packet that would be earlier at the end by another way, the way, and the beat then; None if none."""
     beats = told_sending(sending)
     told = told_choice(net, len(beats), choice)
     ends = [row[-1] for row in Beats(net, beats, told).play()]
