@@ -1,22 +1,37 @@
 """What is asked of curves that are told already: corners and slopes in lowest terms."""
 
-from quickbythen.exact import ONE, ZERO, is_less, lesser, minus, over, plus, times
+from quickbythen.exact import ONE, ZERO, is_less, lesser, lowest, minus, over, plus, times
+
+
+def rise_between(one, other):
+    """What a curve grows by a beat from one corner to a later one: a top and a bottom above 0, in no lowest terms."""
+    begin_top, begin_bottom = one[0]
+    end_top, end_bottom = other[0]
+    first_top, first_bottom = one[1]
+    last_top, last_bottom = other[1]
+    return ((last_top * first_bottom - first_top * last_bottom) * begin_bottom * end_bottom,
+            (end_top * begin_bottom - begin_top * end_bottom) * first_bottom * last_bottom)
 
 
 def slope_between(one, other):
     """What a curve grows by a beat from one corner to a later one."""
-    return over(minus(other[1], one[1]), minus(other[0], one[0]))
+    top, bottom = rise_between(one, other)
+    return lowest(top, bottom)
 
 
 def tidied(corners, slope):
     """The told curve with these corners, less those at which nothing bends."""
     kept = [corners[0]]
+    if len(corners) == 1:
+        return (kept, slope)
+    ahead = rise_between(corners[0], corners[1])
     for index in range(1, len(corners)):
-        grows = slope
+        following = slope
         if index + 1 < len(corners):
-            grows = slope_between(corners[index], corners[index + 1])
-        if slope_between(kept[-1], corners[index]) != grows:
+            following = rise_between(corners[index], corners[index + 1])
+        if ahead[0] * following[1] != following[0] * ahead[1]:
             kept.append(corners[index])
+        ahead = following
     return (kept, slope)
 
 
@@ -53,13 +68,38 @@ def last_corner(curve, moment):
     return low
 
 
-def worth_of(curve, moment):
-    """The worth of a curve at a moment."""
-    index = last_corner(curve, moment)
-    begin, worth = curve[0][index]
+def worth_on(corner, rise, moment):
+    """The worth of a curve that goes on from a corner, by a top and a bottom a beat, at a moment not ahead of it."""
+    begin, worth = corner
     if begin == moment:
         return worth
-    return plus(worth, times(piece_slope(curve, index), minus(moment, begin)))
+    beats = moment[0] * begin[1] - begin[0] * moment[1]
+    under = rise[1] * moment[1] * begin[1]
+    return lowest(worth[0] * under + rise[0] * beats * worth[1], worth[1] * under)
+
+
+def worth_of(curve, moment):
+    """The worth of a curve at a moment."""
+    corners, slope = curve
+    index = last_corner(curve, moment)
+    if index + 1 < len(corners):
+        slope = rise_between(corners[index], corners[index + 1])
+    return worth_on(corners[index], slope, moment)
+
+
+def worths_of(curve, moments):
+    """The worths of a curve at rising moments."""
+    corners, slope = curve
+    index = 0
+    found = []
+    for moment in moments:
+        while index + 1 < len(corners) and not is_less(moment, corners[index + 1][0]):
+            index += 1
+        rise = slope
+        if index + 1 < len(corners):
+            rise = rise_between(corners[index], corners[index + 1])
+        found.append(worth_on(corners[index], rise, moment))
+    return found
 
 
 def slope_of(curve, moment):
@@ -88,10 +128,9 @@ def merged(one, other):
 
 def together_with(one, other, factor):
     """The curve of one and a factor times other."""
-    corners = []
-    for moment in merged(moments_of(one), moments_of(other)):
-        part = times(factor, worth_of(other, moment))
-        corners.append((moment, plus(worth_of(one, moment), part)))
+    moments = merged(moments_of(one), moments_of(other))
+    corners = [(moment, plus(first, times(factor, second)))
+               for moment, first, second in zip(moments, worths_of(one, moments), worths_of(other, moments))]
     return tidied(corners, plus(one[1], times(factor, other[1])))
 
 
@@ -108,13 +147,13 @@ def scaled_by(curve, factor):
 
 def leant(curve, slope):
     """The curve that grows everywhere by slope a beat more."""
-    return together_with(curve, straight(ZERO, slope), ONE)
+    return ([(moment, plus(worth, times(moment, slope))) for moment, worth in curve[0]], plus(curve[1], slope))
 
 
 def out_by_line(line, length, room):
     """The curve of when who comes at a moment is out, from the line that it finds."""
-    wait = scaled_by(line, (1, room))
-    return together_with(wait, straight((length, 1), ONE), ONE)
+    corners = [(moment, plus(plus(moment, (length, 1)), over(heap, (room, 1)))) for moment, heap in line[0]]
+    return (corners, plus(ONE, over(line[1], (room, 1))))
 
 
 def after(outer, inner):

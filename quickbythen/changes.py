@@ -1,8 +1,8 @@
 """What a road more or less does to a net, and nets in which no road more harms."""
 
 from quickbythen.checks import told_comers, told_many
-from quickbythen.compared import stretches_between
-from quickbythen.course import check_way, course, stand_by
+from quickbythen.compared import stretches_by
+from quickbythen.course import course, stand_by
 from quickbythen.errors import BadRoad
 from quickbythen.kinds import is_index
 from quickbythen.nets import Net, shortest
@@ -12,7 +12,6 @@ def idle(net, comers, many):
     """The ascending list of the roads that are quick at the begin of none of the first so many phases."""
     steps = told_comers(comers)
     number = told_many(many)
-    check_way(net)
     quick = [road for phase in course(net, steps, number, None) for road in stand_by(net, phase[1]).quick]
     return [road for road in range(len(net.roads())) if road not in quick]
 
@@ -34,14 +33,14 @@ def harming(net, comers, many):
     """The ascending list of the roads without which there is a way, and somebody is earlier."""
     steps = told_comers(comers)
     number = told_many(many)
-    check_way(net)
     found = []
+    first = course(net, steps, number, None)
     for road in range(len(net.roads())):
         other = left_without(net, road)
         if other.end() not in shortest(other):
             continue
-        words = [word for _, _, word in stretches_between(net, steps, other, steps, number)]
-        if "earlier" in words:
+        second = course(other, steps, number, None)
+        if "earlier" in [word for _, _, word in stretches_by(net, first, other, second)]:
             found.append(road)
     return found
 

@@ -96,8 +96,9 @@ def told_worths(thing):
     """The dict, ascending, from integers to fractions in lowest terms that a thing is, None if it is none."""
     if not isinstance(thing, dict):
         return None
-    if not all([is_integer(key) and is_fraction(thing[key]) for key in thing]):
-        return None
+    for key in thing:
+        if not is_integer(key) or not is_fraction(thing[key]):
+            return None
     return {key: lowest(thing[key][0], thing[key][1]) for key in sorted(thing)}
 
 

@@ -2,7 +2,7 @@
 
 from quickbythen.bends import crossings, gap_between, merged, moments_of, slope_of, worth_of
 from quickbythen.checks import told_comers, told_many, told_moment
-from quickbythen.course import check_way, course, label_bends, rate_from
+from quickbythen.course import course, label_bends, rate_from
 from quickbythen.curves import area
 from quickbythen.exact import ZERO, greater, is_less, plus, sooner, times
 
@@ -11,7 +11,6 @@ def known_until(net, comers, many):
     """When the last one of the first so many phases ends, None if the course rests in one of them."""
     steps = told_comers(comers)
     number = told_many(many)
-    check_way(net)
     return course(net, steps, number, None)[-1][4]
 
 
@@ -52,8 +51,6 @@ def stretches_of(gap, until):
 
 def both_courses(one, steps, other, others, number):
     """The courses of two nets for told comers; NoWay if one of both has no way."""
-    check_way(one)
-    check_way(other)
     return (course(one, steps, number, None), course(other, others, number, None))
 
 
@@ -62,13 +59,18 @@ def how_later(one, first, other, second):
     return gap_between(label_bends(second, other.end()), label_bends(first, one.end()))
 
 
-def stretches_between(one, steps, other, others, number):
-    """As compared, of told comers."""
-    first, second = both_courses(one, steps, other, others, number)
+def stretches_by(one, first, other, second):
+    """As compared, by the courses of both nets."""
     until = first[-1][4]
     if second[-1][4] is not None:
         until = sooner(until, second[-1][4])
     return stretches_of(how_later(one, first, other, second), until)
+
+
+def stretches_between(one, steps, other, others, number):
+    """As compared, of told comers."""
+    first, second = both_courses(one, steps, other, others, number)
+    return stretches_by(one, first, other, second)
 
 
 def compared(one, comers, other, others, many):

@@ -2,7 +2,7 @@
 
 from quickbythen.bends import tidied
 from quickbythen.errors import NoWay
-from quickbythen.exact import ZERO, is_less, minus, negative, over, plus, sooner, times
+from quickbythen.exact import ZERO, is_less, lowest, minus, plus, sooner
 from quickbythen.nets import shortest
 from quickbythen.stands import Stand
 
@@ -13,9 +13,17 @@ def check_way(net):
         raise NoWay()
 
 
+def spare(road, labels):
+    """By how much the label of a road's end is more than length above that of its begin: a top and a bottom."""
+    near_top, near_bottom = labels[road[0]]
+    far_top, far_bottom = labels[road[1]]
+    return (far_top * near_bottom - (near_top + road[2] * near_bottom) * far_bottom, near_bottom * far_bottom)
+
+
 def excess(road, labels):
-    """By how much the label of a road's end is more than length above that of its begin."""
-    return minus(minus(labels[road[1]], labels[road[0]]), (road[2], 1))
+    """The same as a fraction in lowest terms."""
+    top, bottom = spare(road, labels)
+    return lowest(top, bottom)
 
 
 def stand_by(net, labels):
@@ -24,49 +32,77 @@ def stand_by(net, labels):
     waiting = []
     for number, road in enumerate(net.roads()):
         if road[0] in labels:
-            more = excess(road, labels)
-            if more[0] >= 0:
+            more = spare(road, labels)[0]
+            if more >= 0:
                 quick.append(number)
-            if more[0] > 0:
+            if more > 0:
                 waiting.append(number)
     return Stand(net, quick, waiting)
 
 
 def rate_from(steps, moment):
     """The rate from a moment on, by told comers."""
-    return [rate for begin, rate in steps if not is_less(moment, begin)][-1]
+    found = ZERO
+    for begin, rate in steps:
+        if is_less(moment, begin):
+            break
+        found = rate
+    return found
+
+
+def beats_left(net, labels, slopes):
+    """How long until a wait comes to 0 or a road becomes quick, a top and a bottom; None if that never is."""
+    first = None
+    for road in net.roads():
+        if road[0] not in labels:
+            continue
+        more, bottom = spare(road, labels)
+        near_top, near_bottom = slopes[road[0]]
+        far_top, far_bottom = slopes[road[1]]
+        growth = far_top * near_bottom - near_top * far_bottom
+        # A waiting road comes to wait no more, or one that is not quick becomes so.
+        if more < 0 < growth or growth < 0 < more:
+            top = abs(more) * near_bottom * far_bottom
+            under = abs(growth) * bottom
+            if first is None or top * first[1] < first[0] * under:
+                first = (top, under)
+    return first
 
 
 def end_of(net, steps, moment, labels, slopes):
     """When a phase ends that begins at a moment, None if it never does."""
     end = None
-    for begin, _ in steps[::-1]:
+    for begin, _ in steps:
         if is_less(moment, begin):
             end = begin
-    for road in net.roads():
-        if road[0] not in labels:
-            continue
-        more = excess(road, labels)
-        growth = minus(slopes[road[1]], slopes[road[0]])
-        # A waiting road comes to wait no more, or one that is not quick becomes so.
-        if more[0] * growth[0] < 0:
-            end = sooner(end, plus(moment, over(more, negative(growth))))
-    return end
+            break
+    left = beats_left(net, labels, slopes)
+    if left is None:
+        return end
+    return sooner(end, plus(moment, left))
 
 
 def grown(labels, slopes, beats):
     """Labels, so many beats later."""
-    return {place: plus(labels[place], times(slopes[place], beats)) for place in labels}
+    found = {}
+    for place in labels:
+        top, bottom = labels[place]
+        slope = slopes[place]
+        under = slope[1] * beats[1]
+        found[place] = lowest(top * under + slope[0] * beats[0] * bottom, bottom * under)
+    return found
 
 
 def course(net, steps, many, until):
     """The first so many phases, fewer if it rests or a moment is come to: each as (moment, labels, slopes, goes, end).
 
-    The end is None for ever; until is None to let no moment end it.
+    The end is None for ever; until is None to let no moment end it. NoWay if there is no way.
     """
     found = []
     moment = ZERO
     labels = shortest(net)
+    if net.end() not in labels:
+        raise NoWay()
     while len(found) < many:
         slopes, goes = stand_by(net, labels).table(rate_from(steps, moment))
         end = end_of(net, steps, moment, labels, slopes)

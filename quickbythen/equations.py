@@ -1,23 +1,25 @@
-"""Equations, as many as unknowns, of which there is just one solution."""
-
-from quickbythen.exact import ZERO, minus, over, times
+"""Equations of integers, as many as unknowns, of which there is just one solution."""
 
 
 def solved(rows, many):
-    """The rows of what stands on the right, by unknowns, of rows of so many factors and of the right sides."""
-    left = [list(row) for row in rows]
+    """The bottom, above 0, and the rows of the tops of what stands on the right, by unknowns.
+
+    Rows are of so many factors and of the right sides, all integers; they are not kept.
+    """
+    ahead = 1
     for at in range(many):
-        usable = [index for index in range(at, many) if left[index][at] != ZERO]
-        left[at], left[usable[0]] = left[usable[0]], left[at]
-        head = left[at][at]
-        left[at] = [over(part, head) if part != ZERO else ZERO for part in left[at]]
+        usable = at
+        while rows[usable][at] == 0:
+            usable += 1
+        rows[at], rows[usable] = rows[usable], rows[at]
+        pivot = rows[at]
+        head = pivot[at]
         for index in range(many):
-            factor = left[index][at]
-            if index != at and factor != ZERO:
-                left[index] = without(left[index], left[at], factor)
-    return [row[many:] for row in left]
-
-
-def without(row, other, factor):
-    """A row less a factor times another one."""
-    return [part if less == ZERO else minus(part, times(less, factor)) for part, less in zip(row, other)]
+            if index != at:
+                row = rows[index]
+                factor = row[at]
+                # What stood ahead divides all of this: so no integers grow more than they must.
+                rows[index] = [(head * part - factor * less) // ahead for part, less in zip(row, pivot)]
+        ahead = head
+    sign = 1 if ahead > 0 else -1
+    return (sign * ahead, [[sign * part for part in row[many:]] for row in rows])

@@ -14,17 +14,26 @@ def lowest(top, bottom):
 
 def plus(one, other):
     """The sum of two fractions."""
-    return lowest(one[0] * other[1] + other[0] * one[1], one[1] * other[1])
+    top = one[0] * other[1] + other[0] * one[1]
+    bottom = one[1] * other[1]
+    shared = gcd(top, bottom)
+    return (top // shared, bottom // shared)
 
 
 def minus(one, other):
     """One fraction less another one."""
-    return lowest(one[0] * other[1] - other[0] * one[1], one[1] * other[1])
+    top = one[0] * other[1] - other[0] * one[1]
+    bottom = one[1] * other[1]
+    shared = gcd(top, bottom)
+    return (top // shared, bottom // shared)
 
 
 def times(one, other):
     """The product of two fractions."""
-    return lowest(one[0] * other[0], one[1] * other[1])
+    top = one[0] * other[0]
+    bottom = one[1] * other[1]
+    shared = gcd(top, bottom)
+    return (top // shared, bottom // shared)
 
 
 def over(one, other):

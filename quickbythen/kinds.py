@@ -33,7 +33,12 @@ def is_pair(thing):
 
 def is_fraction(thing):
     """Whether a thing is a fraction, in lowest terms or not."""
-    return is_pair(thing) and is_integer(thing[0]) and is_count(thing[1])
+    if not isinstance(thing, (list, tuple)) or len(thing) != 2:
+        return False
+    top, bottom = thing
+    # Asked of very many things, so all is looked at here and not by the functions above.
+    return (isinstance(top, int) and isinstance(bottom, int) and bottom >= 1
+            and not isinstance(top, bool) and not isinstance(bottom, bool))
 
 
 def is_moment(thing):

@@ -1,7 +1,7 @@
 """Curves that are made of curves, and of comers."""
 
-from quickbythen.bends import (crossings, first_positive, gap_between, heap_curve, merged, moments_of, pieces_of,
-                               scaled_by, steps_of, straight, tidied, together_with, worth_of)
+from quickbythen.bends import (first_positive, gap_between, heap_curve, merged, moments_of, pieces_of, scaled_by,
+                               steps_of, straight, tidied, together_with, worth_of, worths_of)
 from quickbythen.checks import told_comers, told_fraction
 from quickbythen.curves import is_curve, plain
 from quickbythen.exact import ONE, ZERO, is_less, lesser, minus, over, plus, times
@@ -37,8 +37,22 @@ def added(curves):
 
 def lower_of(one, other):
     """The curve of the lesser one of two worths."""
-    moments = merged(merged(moments_of(one), moments_of(other)), crossings(gap_between(one, other)))
-    corners = [(moment, lesser(worth_of(one, moment), worth_of(other, moment))) for moment in moments]
+    moments = merged(moments_of(one), moments_of(other))
+    firsts = worths_of(one, moments)
+    seconds = worths_of(other, moments)
+    corners = []
+    for index, moment in enumerate(moments):
+        gap = minus(firsts[index], seconds[index])
+        corners.append((moment, firsts[index] if gap[0] < 0 else seconds[index]))
+        growth = minus(one[1], other[1])
+        if index + 1 < len(moments):
+            later = minus(firsts[index + 1], seconds[index + 1])
+            growth = over(minus(later, gap), minus(moments[index + 1], moment))
+        # Where both cross on from here, the lesser one bends, if that is ahead of the next corner.
+        if gap[0] * growth[0] < 0:
+            crossing = minus(moment, over(gap, growth))
+            if index + 1 == len(moments) or is_less(crossing, moments[index + 1]):
+                corners.append((crossing, worth_of(one, crossing)))
     # They cross no more behind these moments: so who is lower then grows no more than the other one.
     return tidied(corners, lesser(one[1], other[1]))
 

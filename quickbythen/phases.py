@@ -1,7 +1,7 @@
 """The course of labels by which nobody gains: its phases, and what is asked of it."""
 
 from quickbythen.checks import told_comers, told_many, told_moment
-from quickbythen.course import check_way, course, course_to, excess, label_bends, labels_then, rate_from
+from quickbythen.course import course, course_to, excess, label_bends, labels_then, rate_from
 from quickbythen.errors import BadPlace, BadRoad
 from quickbythen.exact import ZERO, greater, is_less, lesser, minus, plus, times
 from quickbythen.kinds import is_index
@@ -12,7 +12,6 @@ def phases(net, comers, many):
     """The list of the first so many phases, fewer if the course rests in one of these."""
     steps = told_comers(comers)
     number = told_many(many)
-    check_way(net)
     return [phase[:4] for phase in course(net, steps, number, None)]
 
 
@@ -20,7 +19,6 @@ def rests(net, comers, many):
     """The number of the phase in which the course rests, None if that is none of the first so many."""
     steps = told_comers(comers)
     number = told_many(many)
-    check_way(net)
     found = course(net, steps, number, None)
     if found[-1][4] is not None:
         return None
@@ -44,7 +42,6 @@ def labels_known(net, steps, moment, many):
     """The labels for who sets out at a moment, None if they are not known by so many phases."""
     then = told_moment(moment)
     number = told_many(many)
-    check_way(net)
     found = course_to(net, steps, number, then)
     if found is None:
         return None
@@ -66,7 +63,6 @@ def label_curve(net, comers, place, many):
     steps = told_comers(comers)
     check_place(net, place)
     number = told_many(many)
-    check_way(net)
     found = course(net, steps, number, None)
     if found[-1][4] is not None:
         return None
@@ -89,7 +85,6 @@ def sum_between(net, steps, begin, end, many, heights):
     first = told_moment(begin)
     last = told_moment(end)
     number = told_many(many)
-    check_way(net)
     found = course_to(net, steps, number, last)
     if found is None:
         return None

@@ -1,7 +1,7 @@
 """Where one can be, and when, through the lines of a plan that is played out."""
 
-from quickbythen.bends import after, out_by_line, slope_of, straight, worth_of
-from quickbythen.exact import ONE, ZERO, is_less, times
+from quickbythen.bends import after, out_by_line, piece_slope, slope_of, straight, worth_of
+from quickbythen.exact import ONE, ZERO, is_less, minus, over, plus, times
 from quickbythen.madecurves import lower_of
 from quickbythen.playing import Play
 
@@ -15,12 +15,20 @@ class Ride:
     """The roads of a net with the lines of a plan, known up to a moment."""
 
     def __init__(self, net, plan, until):
-        play = Play(net, plan, until)
+        self.play = Play(net, plan, until)
         self.start = net.start()
         self.end = net.end()
         self.until = until
-        self.spans = [(road[0], road[1]) for road in net.roads()]
-        self.outs = [out_by_line(play.line_curve(number), road[2], road[3]) for number, road in enumerate(net.roads())]
+        self.roads = net.roads()
+        self.spans = [(road[0], road[1]) for road in self.roads]
+        self.outs = {}
+
+    def out_curve(self, number):
+        """The curve of when who comes to a road's begin at a moment is at its end."""
+        if number not in self.outs:
+            _, _, length, room = self.roads[number]
+            self.outs[number] = out_by_line(self.play.line_curve(number), length, room)
+        return self.outs[number]
 
     def is_late(self, moment):
         """Whether a moment is behind what is known."""
@@ -28,13 +36,13 @@ class Ride:
 
     def out_at(self, number, moment):
         """When who comes to a road's begin at a moment is at its end."""
-        return worth_of(self.outs[number], moment)
+        return worth_of(self.out_curve(number), moment)
 
     def out_behind(self, number, behind):
         """The same right behind a moment: what is told there, and what it grows by a beat."""
         moment, slope = behind
         if slope != ZERO:
-            slope = times(slope, slope_of(self.outs[number], moment))
+            slope = times(slope, slope_of(self.out_curve(number), moment))
         return (self.out_at(number, moment), slope)
 
     def stops(self, way, moment):
@@ -110,14 +118,22 @@ class Ride:
         return way[::-1]
 
     def capped(self, curve):
-        """The curve of the lesser one of a worth and of the moment up to which all is known."""
-        return lower_of(curve, straight(self.until, ZERO))
+        """The curve of the lesser one of a worth, which never falls, and of the moment up to which all is known."""
+        corners = curve[0]
+        many = len([worth for _, worth in corners if is_less(worth, self.until)])
+        if many == 0:
+            return straight(self.until, ZERO)
+        moment, worth = corners[many - 1]
+        slope = piece_slope(curve, many - 1)
+        if slope == ZERO:
+            return curve
+        return (corners[:many] + [(plus(moment, over(minus(self.until, worth), slope)), self.until)], ZERO)
 
     def way_curve(self, way):
         """The curve, by the moment of setting out, of when one is at the end by a way, or of what is known."""
         curve = straight(ZERO, ONE)
         for number in way:
-            curve = self.capped(after(self.outs[number], curve))
+            curve = self.capped(after(self.out_curve(number), curve))
         return curve
 
     def label_curves(self):
@@ -129,7 +145,7 @@ class Ride:
             for number, (one, other) in enumerate(self.spans):
                 if one not in changed:
                     continue
-                curve = self.capped(after(self.outs[number], found[one]))
+                curve = self.capped(after(self.out_curve(number), found[one]))
                 if other in found:
                     curve = lower_of(found[other], curve)
                 if other not in found or curve != found[other]:

@@ -7,13 +7,13 @@ from quickbythen.kinds import is_fraction, is_list
 from quickbythen.nets import shortest
 
 
-def is_phase(net, steps, moment, labels, thing):
-    """Whether a thing is the phase that begins at a moment with these labels."""
+def slopes_in(net, steps, moment, labels, thing):
+    """The slopes, told, of the phase that begins at a moment with these labels, None if a thing is not this phase."""
     if not is_list(thing) or len(thing) != 4 or not is_fraction(thing[0]):
-        return False
+        return None
     if thing[0][0] * moment[1] != moment[0] * thing[0][1] or told_worths(thing[1]) != labels:
-        return False
-    return stand_by(net, labels).is_table(rate_from(steps, moment), (thing[2], thing[3]))
+        return None
+    return stand_by(net, labels).slopes_in(rate_from(steps, moment), (thing[2], thing[3]))
 
 
 def is_phases(net, comers, thing):
@@ -25,9 +25,9 @@ def is_phases(net, comers, thing):
     moment = ZERO
     labels = shortest(net)
     for phase in thing:
-        if moment is None or not is_phase(net, steps, moment, labels, phase):
+        slopes = None if moment is None else slopes_in(net, steps, moment, labels, phase)
+        if slopes is None:
             return False
-        slopes = told_worths(phase[2])
         end = end_of(net, steps, moment, labels, slopes)
         if end is not None:
             labels = grown(labels, slopes, minus(end, moment))
@@ -60,7 +60,6 @@ def plan_until(net, comers, many):
     """A plan by which nobody gains, and until when it tells who sets out, None if that is for ever."""
     steps = told_comers(comers)
     number = told_many(many)
-    check_way(net)
     found = course(net, steps, number, None)
     carried = [(phase[0], ways_of(net, phase[3])) for phase in found]
     until = found[-1][4]

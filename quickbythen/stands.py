@@ -1,9 +1,9 @@
 """Stands that are told already: which roads are quick and which wait, and the table for a rate."""
 
 from quickbythen.checks import told_goes, told_worths
-from quickbythen.exact import ONE, ZERO, greater, lesser, over, total
+from quickbythen.exact import ONE, ZERO, greater, lesser, minus, over, plus
 from quickbythen.kinds import is_pair
-from quickbythen.rising import Rising, line_at
+from quickbythen.rising import Rising
 
 
 class Stand:
@@ -33,47 +33,69 @@ class Stand:
 
     def table(self, rate):
         """A pair of slopes and goes for a rate."""
-        roads = [(self.roads[number][0], self.roads[number][1], self.roads[number][3], number in self.waiting)
-                 for number in self.quick]
-        rising = Rising(self.places, roads, self.start, self.end)
+        if len(self.quick) < len(self.places):
+            return self.only_table(rate)
+        at = {place: index for index, place in enumerate(self.places)}
+        roads = []
+        for number in self.quick:
+            one, other, _, room = self.roads[number]
+            roads.append((at[one], at[other], room, number in self.waiting))
+        rising = Rising(len(at), roads, at.get(self.end))
         turn = 0
-        is_found = False
-        while not is_found:
+        found = None
+        while found is None:
             turn += 1
             rising.begin(turn)
-            is_found = rising.rise(rate)
-            if is_found:
-                rising.end_little()
-                is_found = rising.is_right(rate)
-        slopes, goes = rising.lines()
-        found = {number: line_at(line, rate) for number, line in zip(self.quick, goes)}
-        return ({place: line_at(slopes[place], rate) for place in sorted(slopes)},
-                {number: found[number] for number in found if found[number] != ZERO})
+            if rising.rise(rate):
+                found = rising.told(rate)
+        slopes, goes = found
+        return ({place: slopes[at[place]] for place in sorted(at)},
+                {number: much for number, much in zip(self.quick, goes) if much != ZERO})
 
-    def is_table(self, rate, thing):
-        """Whether a thing is a table for a rate."""
+    def only_table(self, rate):
+        """The same where just one road leads to each place but the start, so that all goes one way."""
+        into = {self.roads[number][1]: number for number in self.quick}
+        way = []
+        place = self.end
+        while rate != ZERO and place != self.start:
+            way.append(into[place])
+            place = self.roads[into[place]][0]
+        slopes = {self.start: ONE}
+        left = self.quick
+        while left:
+            for number in left:
+                one, other, _, room = self.roads[number]
+                if one in slopes:
+                    asked = over(rate, (room, 1)) if number in way else ZERO
+                    slopes[other] = asked if number in self.waiting else greater(asked, slopes[one])
+            left = [number for number in left if self.roads[number][1] not in slopes]
+        return ({place: slopes[place] for place in sorted(slopes)},
+                {number: rate for number in self.quick if number in way})
+
+    def slopes_in(self, rate, thing):
+        """The slopes, told, of the table for a rate that a thing is, None if it is none."""
         if not is_pair(thing):
-            return False
+            return None
         slopes = told_worths(thing[0])
         goes = told_goes(thing[1], len(self.roads))
         if slopes is None or goes is None or list(slopes) != sorted(self.places):
-            return False
+            return None
         if slopes[self.start] != ONE or not all([number in self.quick for number in goes]):
-            return False
-        return self.is_balanced(rate, goes) and self.is_asked(slopes, goes)
+            return None
+        if not self.is_balanced(rate, goes) or not self.is_asked(slopes, goes):
+            return None
+        return slopes
 
     def is_balanced(self, rate, goes):
         """Whether the rate leaves the start and comes to the end, and elsewhere as many leave as come."""
-        for place in self.places + [self.end]:
-            comes = total([goes[number] for number in goes if self.roads[number][1] == place])
-            leaves = total([goes[number] for number in goes if self.roads[number][0] == place])
-            if place == self.start:
-                comes = rate
-            if place == self.end:
-                leaves = rate
-            if comes != leaves:
-                return False
-        return True
+        more = {place: ZERO for place in self.places}
+        more[self.start] = rate
+        more[self.end] = minus(more.get(self.end, ZERO), rate)
+        for number in goes:
+            one, other, _, _ = self.roads[number]
+            more[one] = minus(more[one], goes[number])
+            more[other] = plus(more[other], goes[number])
+        return all([more[place] == ZERO for place in more])
 
     def is_asked(self, slopes, goes):
         """Whether each slope is the least that is asked for, and just what roads with goes ask for."""

@@ -47,4 +47,4 @@ def is_table(net, stand, rate, thing):
     """Whether a thing is a table for a stand and a rate."""
     told = told_stand(net, stand)
     wanted = told_rate(rate)
-    return told.is_table(wanted, thing)
+    return told.slopes_in(wanted, thing) is not None

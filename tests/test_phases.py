@@ -267,6 +267,24 @@ class PhasesTest(unittest.TestCase):
         self.assertEqual(label_at(N, FOUR, 3, (10 ** 40, 1), 3), pair(9 + (10 ** 40 - 3) * Fraction(4, 3)))
         self.assertEqual(waited(N, FOUR, (3, 1), pair(far), 9), Looked(self, N, FOUR, 9).sums(Fraction(3), far)[0])
 
+    def test_many_tables(self):
+        """Inputs that took longest: each table looked through, labels from phase to phase, and what it must be."""
+        steps = comers((0, 24), (12, 9))
+        first = Net(6, [(1, 3, 3, 6), (1, 4, 1, 8), (1, 4, 3, 6), (2, 0, 2, 7), (3, 2, 3, 7), (3, 5, 1, 2), (4, 0, 2, 6),
+                        (4, 3, 2, 8), (5, 0, 1, 3)], 1, 0)
+        second = Net(5, [(0, 1, 1, 2), (0, 1, 3, 1), (0, 3, 1, 3), (1, 3, 2, 1), (1, 3, 3, 3), (3, 4, 2, 1), (3, 4, 3, 1),
+                         (4, 2, 1, 1), (4, 2, 2, 2)], 0, 2)
+        for net, many in ((first, 10), (second, 7)):
+            looked = Looked(self, net, steps, 30)
+            looked.check()
+            self.assertEqual(len(looked.told), many)
+            self.assertIsNone(looked.known)
+            self.assertEqual(phases(net, steps, 30), looked.told)
+        self.assertEqual([phase[0] for phase in phases(first, steps, 30)],
+                         [(0, 1), (2, 3), (6, 5), (13, 6), (41, 10), (25, 6), (12, 1), (490, 33), (3374, 165), (115, 4)])
+        self.assertEqual([phase[0] for phase in phases(second, steps, 30)],
+                         [(0, 1), (1, 16), (7, 48), (2, 7), (13, 21), (129, 133), (12, 1)])
+
     def test_within_limits(self):
         chance = Chance(72)
         for _ in range(12):

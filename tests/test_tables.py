@@ -208,9 +208,9 @@ class TablesTest(unittest.TestCase):
             def begin_otherwise(rising, turn):
                 begin(rising, turn)
                 if turn == 1:
-                    rising.nudges = [pair(Fraction(1, size) if size else 0) for _ in rising.nudges]
-                    rising.sheds = {place: (0, 1) for place in rising.places}
-                    rising.sheds[rising.end] = (1, 1)
+                    rising.unit = size or 1
+                    rising.nudges = [1 if size else 0 for _ in rising.nudges]
+                    rising.sheds = [rising.unit if place == rising.end else 0 for place in range(rising.many)]
                     rising.begin_sorts()
             with mock.patch.object(Rising, "begin", begin_otherwise):
                 for found, stand in stands:
