@@ -30,9 +30,13 @@ def next_length(lanes, through, growth):
 
 def passed(lanes, steps):
     """The stretches, (moment, through, growth, rate), in each of which through goes straight."""
+    return passed_from(lanes, steps, (lanes[0][0], 1))
+
+
+def passed_from(lanes, steps, through):
+    """The same if who comes first takes so long, each shorter lane having the line for it."""
     found = []
     moment = ZERO
-    through = (lanes[0][0], 1)
     while True:
         rate = rate_from(steps, moment)
         met = room_within(lanes, through[0] // through[1])

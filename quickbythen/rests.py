@@ -9,6 +9,7 @@ from quickbythen.kinds import is_count, is_list
 from quickbythen.lanes import first_bad_row, lanes_with, told_lanes
 from quickbythen.nets import Net
 from quickbythen.refusals import BadAnswer, BadBox, BadBundles, BadMost, Unfit
+from quickbythen.workshops import Workshop
 
 
 def rest_by(lanes, rate):
@@ -84,7 +85,7 @@ class Asking:
 
 def learned_lanes(box, most):
     """The lanes of a bundle into which nobody can look, learned by asking for rests."""
-    if box is None or isinstance(box, (int, str, list, tuple, dict, Net, QuickError)):
+    if box is None or isinstance(box, (int, str, list, tuple, dict, Net, Workshop, QuickError)):
         raise BadBox(box)
     if not is_count(most):
         raise BadMost(most)

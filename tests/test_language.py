@@ -13,7 +13,7 @@ CALLED = {"len", "range", "enumerate", "zip", "min", "max", "sum", "abs", "sorte
           "list", "tuple", "dict", "set", "isinstance", "ord", "repr", "any", "all", "divmod", "ValueError"}
 METHODS = {"append", "clear", "copy", "count", "endswith", "extend", "find", "get", "index", "insert", "isalnum",
            "isalpha", "isdigit", "islower", "items", "join", "keys", "pop", "remove", "replace", "reverse", "split",
-           "splitlines", "startswith", "strip", "update", "values", "add", "discard", "setdefault"}
+           "splitlines", "lstrip", "startswith", "strip", "update", "values", "add", "discard", "setdefault"}
 LIBRARY = {"math": ["gcd"], "itertools": ["combinations"]}
 BARRED = {"type", "typing", "enum", "Enum", "Generic", "Protocol", "ABC", "namedtuple", "dataclass", "overload",
           "abstractmethod", "contextmanager", "register", "mro", "elements", "open", "input", "law", "float"}

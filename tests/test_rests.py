@@ -9,10 +9,11 @@ from quickbythen.bundlethrough import time_through
 from quickbythen.errors import BadRate, NoWay, QuickError
 from quickbythen.refusals import BadAnswer, BadBox, BadBundle, BadBundles, BadMost, Unfit
 from quickbythen.rests import fewest_rates, learned_lanes, rest_of
+from quickbythen.workshops import Workshop
 from tests.helpers import N, NO_INTEGERS, NO_MOMENTS, ODD, Chance, check_doors, check_error, pair, swapped, unlowered
 from tests.test_bundles import BAD_BUNDLES, BAD_ROWS, B, any_bundle
 
-NO_BOXES = [thing for thing in ODD if not callable(thing)] + [NoWay()]
+NO_BOXES = [thing for thing in ODD if not callable(thing)] + [NoWay(), Workshop()]
 BAD_MOSTS = NO_INTEGERS + [0, -1, -10 ** 9]
 
 
