@@ -59,22 +59,38 @@ packets.py: packets_played(net, sending, choice); quick_fault(net, sending, choi
 first_free(net, sending); packet_labels(net, sending, beat); packet_gain(net, sending, choice).
 rounds.py: round_stand(net, sending, period, number); comes_again(net, sending, period, many);
 far_packet(net, sending, period, number, many).
+schedules.py: is_schedule(thing); beats_of(schedule); heap_of(schedule); rate_in(schedule, moment);
+come_in(schedule, moment); moment_when(schedule, heap); written_out(schedule).
+apart.py: schedules_apart(one, other).
+days.py: day_labels(net, day, number, many); day_again(net, day, number, many);
+label_by_day(net, day, place, moment, number, many); left_over(net, day, many); pause_for(net, day, many).
+repeating.py: day_through(bundle, day, taken); repeating(bundle, day).
+written.py: write(kind, thing).
+readtexts.py: read(text).
 """
+METHODS = """put(name, thing), settle(name, net, stream, many), take(name), thing(name), names(), users(name),
+is_promise(thing), holds(promise), shown(promise), watch(promise), unwatch(promise), watched(), broken_by(name, thing),
+moved_by(name, net, many), undo(), redo(), done(), twin(), trial(work)"""
+
+
+def listed():
+    """All functions: their files, names and parameters."""
+    return [(name, function, parameters) for name, text in re.findall(r"(\w+)\.py: ([^.]*)\.", LISTED)
+            for function, parameters in re.findall(r"(\w+)\(([^)]*)\)", text)]
 
 
 class InterfaceTest(unittest.TestCase):
     def test_functions(self):
         found = 0
-        for name, text in re.findall(r"(\w+)\.py: ([^.]*)\.", LISTED):
+        for name, function, parameters in listed():
             module = importlib.import_module("quickbythen." + name)
-            for function, parameters in re.findall(r"(\w+)\(([^)]*)\)", text):
-                with self.subTest(function):
-                    made = getattr(module, function)
-                    self.assertTrue(inspect.isfunction(made))
-                    self.assertEqual(made.__module__, "quickbythen." + name)
-                    self.assertEqual(str(inspect.signature(made)), "(" + parameters + ")")
-                    found += 1
-        self.assertEqual(found, 147)
+            with self.subTest(function):
+                made = getattr(module, function)
+                self.assertTrue(inspect.isfunction(made))
+                self.assertEqual(made.__module__, "quickbythen." + name)
+                self.assertEqual(str(inspect.signature(made)), "(" + parameters + ")")
+                found += 1
+        self.assertEqual(found, 164)
 
     def test_net(self):
         from quickbythen.nets import Net
@@ -84,6 +100,18 @@ class InterfaceTest(unittest.TestCase):
             self.assertIn(method, vars(Net))
             if method != "__eq__":
                 self.assertEqual(str(inspect.signature(getattr(Net, method))), "(self)")
+
+    def test_workshop(self):
+        from quickbythen.workshops import Workshop
+        self.assertEqual(Workshop.__module__, "quickbythen.workshops")
+        self.assertEqual(str(inspect.signature(Workshop)), "()")
+        self.assertIn("__eq__", vars(Workshop))
+        methods = re.findall(r"(\w+)\(([^)]*)\)", METHODS)
+        for method, parameters in methods:
+            self.assertIn(method, vars(Workshop))
+            wanted = "(self, " + parameters + ")" if parameters else "(self)"
+            self.assertEqual(str(inspect.signature(vars(Workshop)[method])), wanted)
+        self.assertEqual(len(methods), 19)
 
 
 if __name__ == "__main__":
