@@ -44,42 +44,48 @@ class Asking:
         self.answers = {}
 
     def ask(self, rate):
-        """Ask a rate; BadAnswer for what is no answer, Unfit if no bundle has all answers so far."""
+        """Ask a rate; BadAnswer for what is no answer."""
         box = self.box
         answer = box(rate)
         if answer is not None and not is_count(answer):
             raise BadAnswer(answer)
-        if rate == 1 and answer is None:
-            raise Unfit([rate])
-        for other in sorted(self.answers):
-            if other < rate and is_longer(self.answers[other], answer):
-                raise Unfit([other, rate])
-            if rate < other and is_longer(answer, self.answers[other]):
-                raise Unfit([rate, other])
         self.answers[rate] = answer
 
-    def last_with(self, answer):
-        """The greatest rate with an answer that some rate has, and none of greater rates asked."""
-        low = max([rate for rate in self.answers if self.answers[rate] == answer])
-        high = min([rate for rate in self.answers if rate > low] + [self.most + 1])
+    def ask_between(self, low, high):
+        """Ask a rate halfway between two, and tell it; Unfit if what is answered does not fit in between."""
+        rate = (low + high) // 2
+        self.ask(rate)
+        if is_longer(self.answers[low], self.answers[rate]):
+            raise Unfit([low, rate])
+        if high in self.answers and is_longer(self.answers[rate], self.answers[high]):
+            raise Unfit([rate, high])
+        return rate
+
+    def last_with(self, low, highs):
+        """The greatest rate that is answered as low is; highs, rates above it that were asked, the least one last."""
+        while highs and self.answers[highs[-1]] == self.answers[low]:
+            low = highs.pop()
+        high = highs[-1] if highs else self.most + 1
         while high - low > 1:
-            middle = (low + high) // 2
-            self.ask(middle)
-            if self.answers[middle] == answer:
-                low = middle
+            rate = self.ask_between(low, high)
+            if self.answers[rate] == self.answers[low]:
+                low = rate
             else:
-                high = middle
+                highs.append(rate)
+                high = rate
         return low
 
     def learn(self):
         """The lanes of a bundle that has all answers."""
         self.ask(1)
+        if self.answers[1] is None:
+            raise Unfit([1])
         rooms = []
-        rate = 1
-        while rate <= self.most and self.answers[rate] is not None:
-            length = self.answers[rate]
-            rooms.append((length, self.last_with(length)))
-            rate = rooms[-1][1] + 1
+        highs = [1]
+        # What is behind the last rate of an answer was asked, too, unless that is the greatest rate of all.
+        while highs and self.answers[highs[-1]] is not None:
+            low = highs.pop()
+            rooms.append((self.answers[low], self.last_with(low, highs)))
         return lanes_with(rooms)
 
 

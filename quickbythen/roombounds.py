@@ -24,6 +24,21 @@ class RoomBounds:
             return None
         return min(found)
 
+    def told_up_to(self, last):
+        """The triples of each number up to the last one, how much there is at least, and at most, by it."""
+        found = []
+        most = self.most_by(last + 1)
+        for number in range(last, self.first - 1, -1):
+            if number in self.most and (most is None or self.most[number] < most):
+                most = self.most[number]
+            found.append((number, self.least.get(number, 0), most))
+        least = 0
+        for index in range(len(found) - 1, -1, -1):
+            number, room, most = found[index]
+            least = max(least, room)
+            found[index] = (number, least, most)
+        return found[::-1]
+
     def take_least(self, number, room):
         """Take it that there is at least a room by a number; whether that can be."""
         most = self.most_by(number)
@@ -70,15 +85,17 @@ class RoomBounds:
 
 def numbers_passed(worth, slope, end):
     """The pairs of each number, so that through is between it and the next one, and of how much later that begins."""
-    number = worth[0] // worth[1]
-    if slope == ZERO:
-        return [(number, ZERO)]
+    lower = worth[0] // worth[1]
+    upper = -(-worth[0] // worth[1])
+    found = [(lower if slope[0] >= 0 else upper - 1, ZERO)]
     if slope[0] > 0:
-        later = range(number + 1, -(-end[0] // end[1]))
-        return [(number, ZERO)] + [(far, over(minus((far, 1), worth), slope)) for far in later]
-    number = -(-worth[0] // worth[1]) - 1
-    later = [number - 1 - step for step in range(number - end[0] // end[1])]
-    return [(number, ZERO)] + [(far, over(minus((far + 1, 1), worth), slope)) for far in later]
+        for number in range(lower + 1, -(-end[0] // end[1])):
+            found.append((number, over(minus((number, 1), worth), slope)))
+    if slope[0] < 0:
+        # Going down, a number is begun at the next one.
+        for less in range(1, upper - end[0] // end[1]):
+            found.append((upper - 1 - less, over(minus((upper - less, 1), worth), slope)))
+    return found
 
 
 def first_misfit(bounds, steps, curve):

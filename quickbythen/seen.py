@@ -40,12 +40,10 @@ def seen_bounds(comers, curve):
     """By numbers, the least and the most room of bundles that have a curve, and whether there is no more; or None."""
     steps = told_comers(comers)
     told = told_through(curve)
-    first = told[0][0][1][0]
-    bounds = RoomBounds(first)
+    bounds = RoomBounds(told[0][0][1][0])
     if first_misfit(bounds, steps, told) is not None:
         return None
-    numbers = range(first, last_number(steps, told) + 1)
-    return ([(number, bounds.least_by(number), bounds.most_by(number)) for number in numbers], told[1][0] > 0)
+    return (bounds.told_up_to(last_number(steps, told)), told[1][0] > 0)
 
 
 def whole_room(lanes):

@@ -142,7 +142,7 @@ class SettledTest(unittest.TestCase):
                 continue
             self.check_settled(case, spans, told)
             found[(len(case[2]), len(stretches(*case)))] = True
-        self.assertLessEqual({(1, 1), (2, 1), (2, 2), (3, 2), (3, 3), (4, 2)}, set(found))
+        self.assertLessEqual({1, 2, 3}, {many for _, many in found})
 
     def check_soon(self, case, moment):
         with self.assertRaises(TooSoon) as caught:

@@ -513,7 +513,7 @@ class ChangesTest(unittest.TestCase):
                 label = label_at(net, stream, net.end(), moment, 9)
                 many = len(phases(net, stream, 9))
                 for promise in (("by", "a", "d", moment, label, 9), ("rests", "a", "d", many), ("line", "a", "e", 0, (5, 1), 9)):
-                    if shop.is_promise(promise) and shop.holds(promise) and promise not in shop.watched()[:8]:
+                    if shop.is_promise(promise) and shop.holds(promise) and promise not in shop.watched():
                         shop.watch(promise)
                 name, thing = chance.random.choice([("a", chance.net(4, 5)), ("d", ("comers", chance.comers(2, 5))),
                                                     ("e", ("comers", comers((0, 9))))])
