@@ -96,8 +96,8 @@ def told_worths(thing):
     """The dict, ascending, from integers to fractions in lowest terms that a thing is, None if it is none."""
     if not isinstance(thing, dict):
         return None
-    for key in thing:
-        if not is_integer(key) or not is_fraction(thing[key]):
+    for key, worth in thing.items():
+        if not is_integer(key) or not is_fraction(worth):
             return None
     return {key: lowest(thing[key][0], thing[key][1]) for key in sorted(thing)}
 

@@ -3,7 +3,7 @@
 
 def is_integer(thing):
     """Whether a thing is an int that is not a bool."""
-    return isinstance(thing, int) and not isinstance(thing, bool)
+    return isinstance(thing, int) and thing is not True and thing is not False
 
 
 def is_number(thing):
@@ -38,7 +38,7 @@ def is_fraction(thing):
     top, bottom = thing
     # Asked of very many things, so all is looked at here and not by the functions above.
     return (isinstance(top, int) and isinstance(bottom, int) and bottom >= 1
-            and not isinstance(top, bool) and not isinstance(bottom, bool))
+            and bottom is not True and top is not True and top is not False)
 
 
 def is_moment(thing):

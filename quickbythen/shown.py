@@ -1,17 +1,30 @@
 """Phases looked through, and the plans that they tell."""
 
-from quickbythen.checks import told_comers, told_many, told_worths
-from quickbythen.course import check_way, course, end_of, grown, rate_from, stand_by
+from quickbythen.checks import told_comers, told_many
+from quickbythen.course import course, end_of, grown, rate_from, stand_by
+from quickbythen.errors import NoWay
 from quickbythen.exact import ZERO, lesser, minus
-from quickbythen.kinds import is_fraction, is_list
+from quickbythen.kinds import is_fraction, is_integer, is_list
 from quickbythen.nets import shortest
+
+
+def are_labels(labels, thing):
+    """Whether a thing is a dict from the same places to the same moments as labels."""
+    if not isinstance(thing, dict) or len(thing) != len(labels):
+        return False
+    for place, moment in thing.items():
+        if not is_integer(place) or place not in labels or not is_fraction(moment):
+            return False
+        if moment[0] * labels[place][1] != labels[place][0] * moment[1]:
+            return False
+    return True
 
 
 def slopes_in(net, steps, moment, labels, thing):
     """The slopes, told, of the phase that begins at a moment with these labels, None if a thing is not this phase."""
     if not is_list(thing) or len(thing) != 4 or not is_fraction(thing[0]):
         return None
-    if thing[0][0] * moment[1] != moment[0] * thing[0][1] or told_worths(thing[1]) != labels:
+    if thing[0][0] * moment[1] != moment[0] * thing[0][1] or not are_labels(labels, thing[1]):
         return None
     return stand_by(net, labels).slopes_in(rate_from(steps, moment), (thing[2], thing[3]))
 
@@ -19,11 +32,12 @@ def slopes_in(net, steps, moment, labels, thing):
 def is_phases(net, comers, thing):
     """Whether a thing is the list of the first phases, up to any one of them."""
     steps = told_comers(comers)
-    check_way(net)
+    labels = shortest(net)
+    if net.end() not in labels:
+        raise NoWay()
     if not is_list(thing) or len(thing) == 0:
         return False
     moment = ZERO
-    labels = shortest(net)
     for phase in thing:
         slopes = None if moment is None else slopes_in(net, steps, moment, labels, phase)
         if slopes is None:

@@ -1,7 +1,7 @@
 """Stands that are told already: which roads are quick and which wait, and the table for a rate."""
 
 from quickbythen.checks import told_goes, told_worths
-from quickbythen.exact import ONE, ZERO, greater, lesser, minus, over, plus
+from quickbythen.exact import ONE, ZERO, greater, minus, over, plus
 from quickbythen.kinds import is_pair
 from quickbythen.rising import Rising
 
@@ -99,13 +99,18 @@ class Stand:
 
     def is_asked(self, slopes, goes):
         """Whether each slope is the least that is asked for, and just what roads with goes ask for."""
-        least = {}
+        asked_for = {self.start: True}
         for number in self.quick:
             one, other, _, room = self.roads[number]
-            asked = over(goes[number], (room, 1)) if number in goes else ZERO
-            if number not in self.waiting:
-                asked = greater(asked, slopes[one])
-            if number in goes and asked != slopes[other]:
+            top, bottom = goes.get(number, ZERO)
+            bottom = bottom * room
+            near_top, near_bottom = slopes[one]
+            if number not in self.waiting and top * near_bottom < near_top * bottom:
+                top, bottom = slopes[one]
+            far_top, far_bottom = slopes[other]
+            more = top * far_bottom - far_top * bottom
+            if more < 0 or (more > 0 and number in goes):
                 return False
-            least[other] = lesser(asked, least[other]) if other in least else asked
-        return all([least[place] == slopes[place] for place in least])
+            if more == 0:
+                asked_for[other] = True
+        return len(asked_for) == len(slopes)
