@@ -158,6 +158,37 @@ class LanguageTest(unittest.TestCase):
                     is_read = isinstance(parent, ast.Call) and parent.func.id in ("sorted", "len")
                     self.assertTrue(is_kept or is_read, path.name)
 
+    def test_iterated_at_once(self):
+        """No range, zip and the like is kept; what a loop goes over is not changed in it, as far as names tell."""
+        for name, node in self.each(ast.Assign, ast.Return):
+            if isinstance(node.value, ast.Call) and isinstance(node.value.func, ast.Name):
+                self.assertNotIn(node.value.func.id, ("range", "zip", "enumerate", "reversed", "combinations"), name)
+            if isinstance(node.value, ast.Call) and isinstance(node.value.func, ast.Attribute):
+                self.assertNotIn(node.value.func.attr, ("items", "values"), name)
+        for name, node in self.each(ast.For):
+            gone_over = ast.unparse(node.iter)
+            for inner in [one for row in node.body for one in ast.walk(row)]:
+                if isinstance(inner, ast.Call) and isinstance(inner.func, ast.Attribute):
+                    if inner.func.attr in ("append", "pop", "remove", "insert", "extend", "clear", "setdefault", "update"):
+                        self.assertNotEqual(ast.unparse(inner.func.value), gone_over, name + ": " + gone_over)
+                if isinstance(inner, ast.Subscript) and isinstance(inner.ctx, ast.Store):
+                    held = [gone_over, gone_over.replace("enumerate(", "").rstrip(")")]
+                    self.assertNotIn(ast.unparse(inner.value), held, name + ": " + gone_over)
+
+    def test_strings_in_braces(self):
+        for name, node in self.each(ast.FormattedValue):
+            self.assertIsNone(node.format_spec, name)
+            self.assertEqual([one for one in ast.walk(node.value) if isinstance(one, ast.Constant)
+                              and isinstance(one.value, str)], [], name)
+
+    def test_tries(self):
+        for name, node in self.each(ast.Try):
+            self.assertEqual(node.handlers + node.orelse, [], name)
+            for row in node.finalbody:
+                self.assertIsInstance(row, ast.Assign, name)
+                self.assertTrue(all([isinstance(one, ast.Attribute) for one in row.targets]), name)
+                self.assertIsInstance(row.value, ast.Name, name)
+
     def test_raised_on_the_spot(self):
         for name, node in self.each(ast.Raise):
             self.assertIsInstance(node.exc, ast.Call, name)
